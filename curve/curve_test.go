@@ -106,7 +106,7 @@ func made(t *testing.T, a pair) curve.Point {
 // low are the eight points that come to (0, 1) when they are added 8 times: all are multiples of one, whose y is known.
 func low(t *testing.T) []pair {
 	t.Helper()
-	y, ok := new(big.Int).SetString("7a03ac9277fdc74ec6cc392cfa53202a0f67100d760b3cba4fd83d3d706a17c7", 16)
+	y, ok := new(big.Int).SetString("7a03ac9277fdc74ec6cc392cfa53202a0f67100d760b3cba4fd84d3d706a17c7", 16)
 	xx := quotient(new(big.Int).Sub(mul(y, y), big.NewInt(1)), add(mul(d, y, y), big.NewInt(1)))
 	x := new(big.Int).ModSqrt(xx, p)
 	if !ok || x == nil {
@@ -115,6 +115,10 @@ func low(t *testing.T) []pair {
 	var l []pair
 	for i := range int64(8) {
 		l = append(l, times(big.NewInt(i), pair{x, y}))
+	}
+	// The order is 8 just if the middle one is (0, -1), which comes to (0, 1) when it is doubled.
+	if l[4].x.Sign() != 0 || l[4].y.Cmp(new(big.Int).Sub(p, big.NewInt(1))) != 0 {
+		t.Fatal("not of the order 8")
 	}
 	return l
 }

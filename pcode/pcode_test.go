@@ -169,10 +169,16 @@ func TestP21_2SomeNumbers(t *testing.T) {
 	for range 150 {
 		both(t, new(big.Int).Rand(r, p))
 	}
-	// one of each eight points is low, so that it has few bits that differ
-	y, _ := new(big.Int).SetString("7a03ac9277fdc74ec6cc392cfa53202a0f67100d760b3cba4fd83d3d706a17c7", 16)
-	if !both(t, y) || !both(t, new(big.Int).Sub(p, y)) || !both(t, new(big.Int)) {
-		t.Error("low points")
+	// these have points that come to (0, 1) when they are added 8 times
+	y, _ := new(big.Int).SetString("7a03ac9277fdc74ec6cc392cfa53202a0f67100d760b3cba4fd84d3d706a17c7", 16)
+	for _, y := range []*big.Int{y, new(big.Int).Sub(p, y), new(big.Int)} {
+		if !both(t, y) {
+			t.Errorf("%d: no point", y)
+		}
+		q, _ := pcode.Decode(bytesOf(y, true))
+		if four := curve.Double(curve.Double(q)); curve.Same(q, curve.Zero()) || !curve.Same(curve.Double(four), curve.Zero()) {
+			t.Errorf("%d: no low one", y)
+		}
 	}
 }
 
