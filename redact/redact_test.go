@@ -9,9 +9,9 @@ import (
 
 	"sealring/api"
 	"sealring/canon"
-	"sealring/field"
 	"sealring/parse"
 	"sealring/redact"
+	"sealring/schema"
 	"sealring/tree"
 )
 
@@ -288,20 +288,60 @@ func TestP33_3RedactedAgain(t *testing.T) {
 	}
 }
 
-// The fields that an event must have are all kept, as they were.
+// mayBe is an event of some type, such as may be in a version, with more than is kept of it.
+func mayBe(t *testing.T, v int, kind string) node {
+	t.Helper()
+	noughts := strings.Repeat("A", 43)
+	id := `"$` + noughts + `"`
+	ref := id
+	if v <= 2 {
+		id = `"$e:a.b"`
+		ref = `[` + id + `,{"sha256":"` + noughts + `"}]`
+	}
+	n := read(t, `{"unsigned":{"age":1},"room_id":"!r:a.b","sender":"@s:a.b","depth":1,"origin_server_ts":2,"prev_events":[`+ref+`],"auth_events":[],"hashes":{"sha256":"`+noughts+`","x":1},"signatures":{"a.b":{"ed25519:1":"`+noughts+noughts+`"},"c.d":{}},"state_key":"","redacts":`+id+`,"origin":"a.b","membership":1,"prev_state":2,"more":3,"content":`+full+`}`)
+	n = tree.Put(n, "type", tree.Text(kind))
+	if v <= 2 {
+		n = tree.Put(n, "event_id", tree.Text("$i:a.b"))
+	}
+	if name, e := schema.Check(v, n); e != api.OK {
+		t.Fatalf("%d, %q: %q, %d", v, kind, name, e)
+	}
+	return n
+}
+
 func TestP33_3WhatMayBeStaysSo(t *testing.T) {
 	for v := 1; v <= 11; v++ {
-		rules := slices.Concat(field.Must(api.Text, "type", "room_id", "sender", "event_id"), field.Must(api.Map, "content"), field.Low(field.Must(api.Int, "depth", "origin_server_ts")...), field.Must(api.List, "prev_events", "auth_events"), field.Must(api.Map, "hashes", "signatures"))
 		for _, s := range spans {
-			n := read(t, `{"type":"t","room_id":"!a:b","sender":"@a:b","event_id":"$a:b","depth":1,"origin_server_ts":2,"prev_events":[["$c:d",{"sha256":"h"}]],"auth_events":["$e"],"hashes":{"sha256":"h","x":1},"signatures":{"b":{"ed25519:1":"s"}},"unsigned":{"age":1},"redacts":"$f","content":`+full+`}`)
-			n = tree.Put(n, "type", tree.Text(s.kind))
-			got, e := redact.Redact(v, n)
-			if name, f := field.Check(got, rules...); e != api.OK || f != api.OK {
-				t.Errorf("Redact(%d, %q): %d, %q, %d", v, s.kind, e, name, f)
+			n := mayBe(t, v, s.kind)
+			least := n
+			for _, key := range []string{"unsigned", "state_key", "redacts", "origin", "membership", "prev_state", "more"} {
+				least = tree.Without(least, key)
 			}
+			size, _ := canon.Size(n)
+			great := tree.Put(n, "unsigned", tree.Map(tree.Text("age"), tree.Text(strings.Repeat("a", 65535-size))))
+			for _, n := range []node{n, least, great, tree.Put(n, "content", tree.Map())} {
+				if !schema.Mays(v, n) {
+					t.Fatalf("%d, %q: no event", v, s.kind)
+				}
+				got, e := redact.Redact(v, n)
+				if name, f := schema.Check(v, got); e != api.OK || f != api.OK {
+					t.Errorf("Redact(%d, %q): %d, %q, %d", v, s.kind, e, name, f)
+				}
+			}
+		}
+	}
+}
+
+// The fields that an event must have are all kept, as they were.
+func TestP33_3WhatMustBeThereStays(t *testing.T) {
+	for v := 1; v <= 11; v++ {
+		rules, _ := schema.Rules(v)
+		for _, s := range spans {
+			n := mayBe(t, v, s.kind)
+			got, _ := redact.Redact(v, n)
 			for _, r := range rules {
 				before, _ := tree.Get(n, r.Name)
-				if behind, _ := tree.Get(got, r.Name); r.Name != "content" && !tree.Exact(before, behind) {
+				if behind, _ := tree.Get(got, r.Name); r.Must && r.Name != "content" && !tree.Exact(before, behind) {
 					t.Errorf("Redact(%d, %q): %s", v, s.kind, r.Name)
 				}
 			}
