@@ -3,6 +3,7 @@ package tree_test
 import (
 	"math"
 	"reflect"
+	"runtime/debug"
 	"slices"
 	"strconv"
 	"testing"
@@ -340,6 +341,40 @@ func TestP7_4AllGoesThroughThemInOrder(t *testing.T) {
 	}
 }
 
+// What nests deeper than may be is gone through in the same way.
+func TestP7_4AllAtAnyDepth(t *testing.T) {
+	a := tree.List(tree.Map(tree.Text("x"), tree.List(tree.Int(1), tree.List(tree.Int(2)), tree.List(), tree.Int(3)), tree.Text("a"), tree.Int(4)), tree.List(tree.Int(5)), tree.Int(6))
+	for lists := 55; lists < 75; lists++ {
+		// Ahead of what is told last, and behind it, there stands more at each level.
+		n, ahead, behind := a, []int64(nil), []int64(nil)
+		for i := range int64(lists) {
+			n, ahead, behind = tree.List(tree.Int(100+i), n, tree.Int(200+i)), append(ahead, 100+i), append(behind, 200+i)
+		}
+		slices.Reverse(ahead)
+		want := slices.Concat(ahead, []int64{1, 2, 3, 4, 5, 6}, behind)
+		var got []int64
+		for m := range tree.All(n) {
+			if m.Kind == api.Int {
+				got = append(got, m.N)
+			}
+		}
+		if !slices.Equal(got, want) || tree.Depth(n) != lists+5 || tree.Count(n) != 3*lists+12 {
+			t.Errorf("%d: %d, %d, not in order: %v", lists, tree.Depth(n), tree.Count(n), got)
+		}
+		for leave := 1; leave <= 3*lists+12; leave++ {
+			seen := 0
+			for range tree.All(n) {
+				if seen++; seen == leave {
+					break
+				}
+			}
+			if seen != leave {
+				t.Errorf("%d, left at %d: %d", lists, leave, seen)
+			}
+		}
+	}
+}
+
 func gets(t *testing.T, n node, key string, want node, ok bool) {
 	t.Helper()
 	got, is := tree.Get(n, key)
@@ -482,6 +517,8 @@ func TestP7_5WhatFollows(t *testing.T) {
 }
 
 func TestP7WhateverComes(t *testing.T) {
+	// How deep a tree is must not tell on the stack.
+	defer debug.SetMaxStack(debug.SetMaxStack(1 << 20))
 	strange := []node{{}, {Kind: -1, N: math.MinInt64, S: "\xff", K: []string{"a", "a"}, L: []node{{Kind: 77}}}, {Kind: 6, K: []string{"a", "\xff"}, L: []node{{Kind: 5, K: []string{"b"}}}}, {Kind: 6, L: make([]node, 3)}, {Kind: 6, K: make([]string, 3)}, in(1000000, tree.Null())}
 	long := tree.Null()
 	for range 300000 { // what nests deep at its left
